@@ -1,0 +1,1 @@
+"""Movehouse: a desk that moves between two houses, key by key."""
